@@ -1,0 +1,127 @@
+"""What the document tells, looked up among the NUMBERS of a format, with Python's own fractions.
+
+It shares nothing with the program: the NUMBERS are listed, and the least, the greatest and the
+nearest ones are found by going through the list.
+"""
+
+from bisect import bisect_right
+from fractions import Fraction
+from functools import lru_cache
+
+WAYS = ("even", "away", "up", "down", "zero")
+SMALL_FORMATS = (
+    (2, 3, -2, 1), (2, 2, 0, 0), (2, 2, -3, 3), (4, 2, -1, 1), (6, 2, -2, 0), (10, 2, -1, 0),
+    (10, 2, 1, 2), (10, 2, -4, -3), (36, 2, -1, -1), (2, 4, -6, -2),
+)
+LARGE_FORMATS = ((36, 120, -1200, 1200), (2, 53, -1074, 971), (10, 34, -1200, 1200))
+
+
+def fraction_of(pair):
+    return Fraction(pair[0], pair[1])
+
+
+def pair_of(fraction):
+    return (fraction.numerator, fraction.denominator)
+
+
+def worth_of(form, number):
+    size = number[2] * Fraction(form[0]) ** number[3]
+    return -size if number[1] == 1 else size
+
+
+@lru_cache(maxsize=None)
+def sizes_to(form, top):
+    """All (size, c, e) with e from low to top, ascending, 0 with them."""
+    base, digits, low, _ = form
+    found = [(c * Fraction(base) ** low, c, low) for c in range(base ** digits)]
+    for e in range(low + 1, top + 1):
+        found += [(c * Fraction(base) ** e, c, e) for c in range(base ** (digits - 1), base ** digits)]
+    return found
+
+
+@lru_cache(maxsize=None)
+def bare_sizes_to(form, top):
+    return [size for size, _, _ in sizes_to(form, top)]
+
+
+def numbers_of(form):
+    """All NUMBERS of a format, both zeros with them."""
+    return [("num", s, c, e) for s in (0, 1) for _, c, e in sizes_to(form, form[3])]
+
+
+def values_of(form):
+    return numbers_of(form) + [("inf", 0), ("inf", 1), ("nan",)]
+
+
+def some_of(things, many):
+    """About so many of a list, evenly, its first and last ones among them."""
+    things = list(things)
+    if len(things) <= many:
+        return things
+    step = len(things) // many + 1
+    return things[:3] + things[3:-3:step] + things[-3:]
+
+
+def greatest_size(form):
+    return (form[0] ** form[1] - 1) * Fraction(form[0]) ** form[3]
+
+
+def normal_size(form):
+    return Fraction(form[0]) ** (form[2] + form[1] - 1)
+
+
+def neighbours(form, x):
+    """The NUMBERS next to x, not above it and not below it, whatever high is."""
+    size, top = abs(x), form[2]
+    while bare_sizes_to(form, top)[-1] < size:
+        top += 1
+    sizes = sizes_to(form, top)
+    at = bisect_right(bare_sizes_to(form, top), size) - 1
+    inner = sizes[at]
+    outer = inner if inner[0] == size else sizes[at + 1]
+    if x < 0:
+        return ("num", 1) + outer[1:], ("num", 1) + inner[1:]
+    return ("num", 0) + inner[1:], ("num", 0) + outer[1:]
+
+
+def unbounded(form, way, x):
+    """The NUMBER to which x, not 0, is ROUNDED if high does not count."""
+    low, high = neighbours(form, x)
+    inner, outer = (high, low) if x < 0 else (low, high)
+    if way in ("up", "down", "zero"):
+        return {"up": high, "down": low, "zero": inner}[way]
+    to_inner, to_outer = abs(x - worth_of(form, inner)), abs(worth_of(form, outer) - x)
+    if to_inner != to_outer:
+        return inner if to_inner < to_outer else outer
+    if inner == outer or way == "away":
+        return outer
+    return inner if inner[2] % 2 == 0 else outer
+
+
+def outcome(form, way, x, s):
+    """The OUTCOME of a Fraction x."""
+    if x == 0:
+        return (("num", s, 0, form[2]), ())
+    number, flags = unbounded(form, way, x), []
+    if worth_of(form, number) != x:
+        flags.append("inexact")
+        if abs(x) < normal_size(form):
+            flags.append("tiny")
+    if abs(worth_of(form, number)) <= greatest_size(form):
+        return (number, tuple(flags))
+    sign = 1 if x < 0 else 0
+    if way in ("even", "away") or way == ("up" if x > 0 else "down"):
+        return (("inf", sign), ("inexact", "over"))
+    return (("num", sign, form[0] ** form[1] - 1, form[3]), ("inexact", "over"))
+
+
+def interesting_fractions(form):
+    """Fractions on all NUMBERS from 0 on, half-way between them, a little off both, and far beyond."""
+    sizes = bare_sizes_to(form, form[3] + 1)
+    found = []
+    for one, other in zip(sizes, sizes[1:]):
+        little = (other - one) / 1000
+        middle = (one + other) / 2
+        found += [one, one + little, middle - little, middle, middle + little, other - little]
+    found += [sizes[1] / 10 ** 30, sizes[-1] * 10 ** 6 + Fraction(1, 7)]
+    return found

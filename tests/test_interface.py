@@ -1,0 +1,61 @@
+"""The interface: the names, arguments and places that the document lists for the modules that landed."""
+
+import ast
+import unittest
+from pathlib import Path
+
+PACKAGE = Path(__file__).resolve().parent.parent / "nearestheld"
+# In the order in which the modules should be written: each may use those above it.
+INTERFACE = {
+    "errors": "NearError CannotTell(step) NoCommand(line) NoLine(line) NoText(text) NotThere(value) Nothing "
+              "TooMany(most) Undecided(step) Wrong(place)",
+    "forms": "is_integer(thing) is_fraction(thing) is_format(thing) is_way(thing) are_flags(thing) "
+             "is_number(form,thing) is_value(form,thing) is_outcome(form,thing) is_program(thing) is_plain(thing) "
+             "is_span(form,thing) is_box(form,many,thing)",
+    "fractions": "reduced(n,d) added(one,other) lessened(one,other) times(one,other) over(one,other) "
+                 "total_of(fractions) size_of(one) power_of(base,e) compared(one,other) floor_of(one) "
+                 "ceiling_of(one) nearest_integer(way,one)",
+    "worths": "worth(form,number) number_of(form,fraction) zero(form,s) is_finite(value) is_zero(value) "
+              "is_tiny(form,value) sign_of(value) opposite(value) size(value)",
+    "orders": "order_of(form,x,other,y) less(form,x,y) same(form,x,y) in_order(form,values)",
+}
+
+
+def tree_of(module):
+    return ast.parse((PACKAGE / f"{module}.py").read_text())
+
+
+def arguments_of(node):
+    """The names of what a function, or a class when it is called, takes; None if it takes anything."""
+    if isinstance(node, ast.FunctionDef):
+        return [argument.arg for argument in node.args.args]
+    makers = [part for part in node.body if isinstance(part, ast.FunctionDef) and part.name == "__init__"]
+    return arguments_of(makers[0])[1:] if makers else None
+
+
+class Interface(unittest.TestCase):
+    def test_the_package_has_just_the_modules_that_landed(self):
+        found = sorted([path.name for path in PACKAGE.iterdir() if path.name != "__pycache__"])
+        self.assertEqual(found, sorted([f"{module}.py" for module in INTERFACE] + ["__init__.py"]))
+        self.assertEqual((PACKAGE / "__init__.py").read_bytes(), b"")
+
+    def test_each_name_is_defined_in_its_file_with_its_arguments(self):
+        for module, rows in INTERFACE.items():
+            nodes = {node.name: node for node in tree_of(module).body if hasattr(node, "name")}
+            for row in rows.split():
+                name, _, rest = row.partition("(")
+                with self.subTest(module=module, name=name):
+                    self.assertIn(name, nodes)
+                    expected = rest.rstrip(")").split(",") if rest else None
+                    self.assertEqual(arguments_of(nodes[name]), expected)
+
+    def test_a_module_uses_only_those_above_it(self):
+        order = list(INTERFACE)
+        for at, module in enumerate(order):
+            for node in tree_of(module).body:
+                if isinstance(node, ast.ImportFrom) and node.module != "math":
+                    self.assertIn(node.module.removeprefix("nearestheld."), order[:at])
+
+
+if __name__ == "__main__":
+    unittest.main()
