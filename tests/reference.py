@@ -4,9 +4,10 @@ It shares nothing with the program: the NUMBERS are listed, and the least, the g
 nearest ones are found by going through the list.
 """
 
-from bisect import bisect_right
+from bisect import bisect_left, bisect_right
 from fractions import Fraction
 from functools import lru_cache
+from random import Random
 
 WAYS = ("even", "away", "up", "down", "zero")
 SMALL_FORMATS = (
@@ -99,7 +100,34 @@ def unbounded(form, way, x):
 
 
 def outcome(form, way, x, s):
-    """The OUTCOME of a Fraction x."""
+    """The OUTCOME of a Fraction x in a small FORMAT."""
+    return outcome_of(form, way, x, s, unbounded)
+
+
+def outcome_in_large(form, way, x, s):
+    """The OUTCOME of a Fraction x in a FORMAT whose NUMBERS cannot be listed."""
+    return outcome_of(form, way, x, s, unbounded_in_large)
+
+
+def unbounded_in_large(form, way, x):
+    """As unbounded, but reckoned: the neighbours have the least e at which c has not too many digits."""
+    base, digits, low, _ = form
+    size = abs(x)
+    top = low + 4 * max(size.numerator.bit_length(), size.denominator.bit_length()) + 4 * abs(low) + 4
+    e = bisect_left(range(low, top), True, key=lambda e: size < Fraction(base) ** (digits + e)) + low
+    unit = Fraction(base) ** e
+    c = size // unit
+    upward = way == ("up" if x > 0 else "down")
+    if way in ("even", "away"):
+        over_half = size - c * unit - unit / 2
+        upward = over_half > 0 or (over_half == 0 and (way == "away" or c % 2 == 1))
+    if upward and size != c * unit:
+        c += 1
+    s = 1 if x < 0 else 0
+    return ("num", s, base ** (digits - 1), e + 1) if c == base ** digits else ("num", s, c, e)
+
+
+def outcome_of(form, way, x, s, unbounded):
     if x == 0:
         return (("num", s, 0, form[2]), ())
     number, flags = unbounded(form, way, x), []
@@ -124,4 +152,19 @@ def interesting_fractions(form):
         middle = (one + other) / 2
         found += [one, one + little, middle - little, middle, middle + little, other - little]
     found += [sizes[1] / 10 ** 30, sizes[-1] * 10 ** 6 + Fraction(1, 7)]
+    return sorted(found)
+
+
+def some_numbers(form, many, seed):
+    """So many NUMBERS of a FORMAT, of all sizes and of sizes that are near together, always the same ones."""
+    base, digits, low, high = form
+    random = Random(seed)
+    full, beyond = base ** (digits - 1), base ** digits
+    found = []
+    while len(found) < many:
+        e = random.choice((low, high, random.randint(low, high), max(low, min(high, random.randint(-digits, 2)))))
+        c = random.choice((full, beyond - 1, random.randrange(full, beyond), beyond // 2, full * base // 2))
+        if e == low:
+            c = random.choice((c, 0, 1, full - 1, random.randrange(full), random.randrange(min(full, 100))))
+        found.append(("num", random.randrange(2), c, e))
     return found

@@ -18,6 +18,12 @@ INTERFACE = {
     "worths": "worth(form,number) number_of(form,fraction) zero(form,s) is_finite(value) is_zero(value) "
               "is_tiny(form,value) sign_of(value) opposite(value) size(value)",
     "orders": "order_of(form,x,other,y) less(form,x,y) same(form,x,y) in_order(form,values)",
+    "rounding": "below(form,x) above(form,x) joined(outcomes) rounded(form,way,x,s) rounded_root(form,way,x) "
+                "is_rounded(form,way,x,s,thing) unit_at(form,x) most_error(form,way,x)",
+    "basic": "add(form,way,x,y) take(form,way,x,y) times(form,way,x,y) by(form,way,x,y)",
+    "roots": "root(form,way,x) fused(form,way,x,y,z)",
+    "rests": "rest(form,x,y) left_over(form,x,y) whole(form,way,x)",
+    "scaling": "scale(form,way,x,n) least(form,x,y) greatest(form,x,y)",
 }
 
 
