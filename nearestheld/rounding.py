@@ -1,8 +1,8 @@
 """Real numbers ROUNDED to NUMBERS.
 
-A spot, below, is where a size above 0 stands: a tuple (e, c, part). The greatest NUMBER that is not
-above it, whatever high is, has this c and e; part tells, as part_of does, how far it is from there
-to the next one.
+In this file a spot is where a size above 0 stands: a tuple (e, c, part). The greatest NUMBER that
+is not above the size, whatever high is, has this c and e; part tells, as part_of does, how far the
+size is from there on the way to the next NUMBER.
 """
 
 from math import isqrt

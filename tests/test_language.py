@@ -31,7 +31,7 @@ METHODS = (
 BARRED_NAMES = (
     "register mro elements open input law version_info with_traceback add_note attrgetter breakpoint builtins "
     "compile copyright credits delattr dir eval exec exit gc getattr globals hasattr help id importlib license "
-    "locals methodcaller os quit setattr super type vars sys __name__ iter next map self_ global"
+    "locals methodcaller os quit setattr super type vars sys __name__ iter next map"
 ).split()
 BARRED_WORDS = re.compile(
     r"\b(typing|typing_extensions|enum|Enum|IntEnum|StrEnum|Flag|IntFlag|Generic|Protocol|ABC|ABCMeta|namedtuple|"
