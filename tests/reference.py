@@ -7,6 +7,7 @@ nearest ones are found by going through the list.
 from bisect import bisect_left, bisect_right
 from fractions import Fraction
 from functools import lru_cache
+from math import ceil, floor
 from random import Random
 
 WAYS = ("even", "away", "up", "down", "zero")
@@ -15,6 +16,7 @@ SMALL_FORMATS = (
     (10, 2, 1, 2), (10, 2, -4, -3), (36, 2, -1, -1), (2, 4, -6, -2),
 )
 LARGE_FORMATS = ((36, 120, -1200, 1200), (2, 53, -1074, 971), (10, 34, -1200, 1200))
+LARGEST_FORMATS = tuple((base, 120, -1200, 1200) for base in (2, 4, 6, 10, 20, 36))
 
 
 def fraction_of(pair):
@@ -52,6 +54,12 @@ def numbers_of(form):
 
 def values_of(form):
     return numbers_of(form) + [("inf", 0), ("inf", 1), ("nan",)]
+
+
+def numbers_in_order(form):
+    """All NUMBERS, ascending, the zero with the SIGN 1 ahead of the other one."""
+    unsigned = [("num", 0, c, e) for _, c, e in sizes_to(form, form[3])]
+    return [("num", 1) + number[2:] for number in unsigned[::-1]] + unsigned
 
 
 def some_of(things, many):
@@ -143,6 +151,27 @@ def outcome_of(form, way, x, s, unbounded):
     return (("num", sign, form[0] ** form[1] - 1, form[3]), ("inexact", "over"))
 
 
+def rounded_integer(way, x):
+    """The integer to which a Fraction is rounded."""
+    low, high = floor(x), ceil(x)
+    inner, outer = (high, low) if x < 0 else (low, high)
+    if way in ("up", "down", "zero"):
+        return {"up": high, "down": low, "zero": inner}[way]
+    if abs(x - inner) == abs(x - outer):
+        return outer if way == "away" or inner % 2 == 1 else inner
+    return inner if abs(x - inner) < abs(x - outer) else outer
+
+
+def edges_of(form):
+    """NUMBERS with the SIGN 0 at all edges of a format."""
+    base, digits, low, high = form
+    top, full = base ** digits - 1, base ** (digits - 1)
+    return [("num", 0, c, e) for c, e in (
+        (1, low), (2, low), (full - 1, low), (full, low), (full + 1, low), (top, low), (full, high), (top, high),
+        (top - 1, high), (full, min(low + 1, high)), (top, max(high - 1, low)),
+    )]
+
+
 def interesting_fractions(form):
     """Fractions on all NUMBERS from 0 on, half-way between them, a little off both, and far beyond."""
     sizes = bare_sizes_to(form, form[3] + 1)
@@ -168,3 +197,49 @@ def some_numbers(form, many, seed):
             c = random.choice((c, 0, 1, full - 1, random.randrange(full), random.randrange(min(full, 100))))
         found.append(("num", random.randrange(2), c, e))
     return found
+
+
+def decimal_fraction(decimal):
+    """The Fraction for which a DECIMAL stands."""
+    s, c, e = decimal
+    return (-c if s else c) * Fraction(10) ** e
+
+
+def stretch(form, number):
+    """The ends, Fractions, of what is by "even" rounded to the size of a NUMBER, and whether they are in it."""
+    sizes = bare_sizes_to(form, form[3] + 1)
+    at = bisect_left(sizes, abs(worth_of(form, number)))
+    ends = [(sizes[other] + sizes[at]) / 2 for other in (at - 1, at + 1)]
+    are_in = [outcome(form, "even", end, 0)[0] == ("num", 0) + number[2:] for end in ends]
+    assert are_in[0] == are_in[1]
+    return ends[0], ends[1], are_in[0]
+
+
+def is_in(stretched, x):
+    low, high, are_in = stretched
+    return low < x < high or (are_in and x in (low, high))
+
+
+def place_of(x):
+    """The greatest e for which 10 ** e is not above a Fraction above 0."""
+    e = len(str(x.numerator)) - len(str(x.denominator)) - 1
+    while Fraction(10) ** (e + 1) <= x:
+        e += 1
+    return e
+
+
+def shortest_by_going_through(form, number):
+    """The shortest DECIMAL of a NUMBER that is no zero, found by going through those of one digit, of two .."""
+    stretched = stretch(form, number)
+    size = abs(worth_of(form, number))
+    many = 0
+    while True:
+        many += 1
+        found = []
+        for e in range(place_of(stretched[0]) - many, place_of(stretched[1]) + 2):
+            unit = Fraction(10) ** e
+            first, last = max(10 ** (many - 1), int(stretched[0] / unit)), min(10 ** many - 1, int(stretched[1] / unit))
+            found += [(abs(c * unit - size), c * unit, c, e) for c in range(first, last + 1)
+                      if c % 10 and is_in(stretched, c * unit)]
+        if found:
+            return (number[1],) + min(found)[2:]

@@ -24,6 +24,19 @@ INTERFACE = {
     "roots": "root(form,way,x) fused(form,way,x,y,z)",
     "rests": "rest(form,x,y) left_over(form,x,y) whole(form,way,x)",
     "scaling": "scale(form,way,x,n) least(form,x,y) greatest(form,x,y)",
+    "formats": "greatest_number(form) least_normal(form) least_tiny(form) numbers_many(form) rank_of(form,value) "
+               "steps_between(form,x,y) unit_of(form,number) numbers_of(form) value_at(form,rank) "
+               "next_up(form,value) next_down(form,value)",
+    "turning": "turned(form,way,other,value) from_integer(form,way,n) integer_of(form,way,value) "
+               "is_within(form,other) lost_number(form,other)",
+    "words": "is_decimal(thing) digit_text(base,n) digits_in(base,text) decimal_worth(decimal) trimmed(decimal) "
+             "decimal_of(text) digits_many(decimal)",
+    "reader": "read_decimal(form,way,decimal) read(form,way,text) reads_back(form,decimal,number) "
+              "show_own(form,number) read_own(form,text)",
+    "shortest": "stretch_of(form,number) fewer_paper(form,number) shortest(form,number) "
+                "is_shortest(form,number,thing) is_fewer_paper(form,number,thing)",
+    "shower": "told_digits(form,number,many,way) told_places(form,number,places,way) enough_digits(form) "
+              "kept_digits(form)",
 }
 
 

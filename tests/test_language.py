@@ -190,7 +190,7 @@ class Files(unittest.TestCase):
                 self.assertIsInstance(node.value, (int, str, None.__class__))
                 if isinstance(node.value, str):
                     self.assertNotIn("%", node.value)
-                    self.assertTrue(id(node) in docs or not re.search(r"\A__|\._*\Z|\btype\b", node.value))
+                    self.assertTrue(id(node) in docs or not re.search(r"\A__|\._+\Z|\btype\b", node.value))
             if isinstance(node, ast.BinOp) and isinstance(node.op, ast.Pow):
                 self.assertTrue(isinstance(node.right, ast.Constant) and 0 <= node.right.value <= 64)
 

@@ -2,28 +2,16 @@
 
 import unittest
 from fractions import Fraction
-from math import ceil, floor
 
 from nearestheld.forms import is_outcome
 from nearestheld.rests import left_over, rest, whole
 from reference import (
-    LARGE_FORMATS, SMALL_FORMATS, WAYS, numbers_of, outcome, outcome_in_large, some_numbers, some_of,
-    worth_of,
+    LARGE_FORMATS, SMALL_FORMATS, WAYS, numbers_of, outcome, outcome_in_large, rounded_integer, some_numbers,
+    some_of, worth_of,
 )
 
 NAN = ("nan",)
 KEPT, MADE = (NAN, ()), (NAN, ("invalid",))
-
-
-def rounded_integer(way, x):
-    """The integer to which a Fraction is rounded."""
-    low, high = floor(x), ceil(x)
-    inner, outer = (high, low) if x < 0 else (low, high)
-    if way in ("up", "down", "zero"):
-        return {"up": high, "down": low, "zero": inner}[way]
-    if abs(x - inner) == abs(x - outer):
-        return outer if way == "away" or inner % 2 == 1 else inner
-    return inner if abs(x - inner) < abs(x - outer) else outer
 
 
 class Rests(unittest.TestCase):

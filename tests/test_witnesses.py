@@ -10,10 +10,16 @@ from fractions import Fraction
 from random import Random
 
 from nearestheld.basic import add, by, take, times
+from nearestheld.formats import next_down, next_up, rank_of, unit_of
+from nearestheld.reader import read, read_decimal, reads_back
 from nearestheld.rests import left_over, rest, whole
 from nearestheld.roots import fused, root
 from nearestheld.rounding import rounded
 from nearestheld.scaling import scale
+from nearestheld.shortest import shortest
+from nearestheld.shower import told_digits, told_places
+from nearestheld.turning import from_integer, integer_of, turned
+from nearestheld.words import trimmed
 from reference import WAYS, pair_of, some_numbers, worth_of
 
 NAN = ("nan",)
@@ -26,7 +32,7 @@ SIGNALS = (
     ("over", decimal.Overflow), ("tiny", decimal.Underflow),
 )
 TEN_FORMATS = ((10, 2, -2, 0), (10, 3, -3, 3), (10, 7, -20, 20), (10, 34, -1200, 1200), (10, 120, -1200, 900))
-DOUBLE = (2, 53, -1074, 971)
+DOUBLE, SINGLE = (2, 53, -1074, 971), (2, 24, -149, 104)
 
 
 def number_from(form, s, size):
@@ -183,6 +189,94 @@ class Doubles(unittest.TestCase):
                     self.assertEqual(whole(DOUBLE, way, x)[0], expected)
                 for n in (-1100, -60, -1, 0):
                     self.assertEqual(scale(DOUBLE, "even", x, n)[0], self.value_from(math.ldexp(one, n)))
+
+    def test_neighbours_units_and_ranks(self):
+        for one in self.some_doubles():
+            x = self.value_from(one)
+            self.assertEqual(next_up(DOUBLE, x), self.value_from(math.nextafter(one, math.inf)))
+            self.assertEqual(next_down(DOUBLE, x), self.value_from(math.nextafter(one, -math.inf)))
+            if math.isfinite(one):
+                self.assertEqual(Fraction(*unit_of(DOUBLE, x)), Fraction(math.ulp(one)))
+            if not math.isnan(one):
+                bits = struct.unpack("<Q", struct.pack("<d", abs(one)))[0]
+                self.assertEqual(rank_of(DOUBLE, x), -bits if one < 0 else bits)
+
+    def test_turned_to_singles_and_back(self):
+        for one in self.some_doubles():
+            x = self.value_from(one)
+            told = turned(DOUBLE, "even", SINGLE, x)[0]
+            if told[0] == "inf" and math.isfinite(one):
+                with self.assertRaises(OverflowError):
+                    struct.pack("<f", one)
+            else:
+                near = struct.unpack("<f", struct.pack("<f", one))[0]
+                self.assertEqual(turned(SINGLE, "even", DOUBLE, told), (self.value_from(near), ()))
+
+    def test_integers(self):
+        random = Random(11)
+        for _ in range(200):
+            n = random.choice((1, -1)) * random.randrange(2 ** random.randint(1, 1000))
+            self.assertEqual(from_integer(DOUBLE, "even", n)[0], self.value_from(float(n)))
+        for one in self.some_doubles():
+            x = self.value_from(one)
+            if math.isfinite(one):
+                for way, near in (("down", math.floor), ("up", math.ceil), ("zero", math.trunc), ("even", round)):
+                    self.assertEqual(integer_of(DOUBLE, way, x)[0], near(one))
+
+    def test_shortest(self):
+        for one in self.some_doubles() + [9007199254740992.0, 1e22, 1e23, 0.1, 2.0 ** -44, 123456789.0, 1e-5, 9.5e15]:
+            if math.isfinite(one):
+                s, c, e = self.trimmed_from(Decimal(repr(one)))
+                # Of two that are equally near Python shows the even one.
+                if 2 * (c * Fraction(10) ** e - abs(Fraction(one))) == Fraction(10) ** e:
+                    c = c - 1
+                self.assertEqual(shortest(DOUBLE, self.value_from(one)), (s, c, e), one)
+
+    def test_reading(self):
+        random = Random(12)
+        for _ in range(1500):
+            digits = str(random.randrange(10 ** random.randint(1, 25)))
+            at = random.randint(0, len(digits))
+            text = random.choice(("", "-", "+")) + digits[:at] + "." + digits[at:]
+            text += random.choice(("", "e5", f"e{random.randint(-340, 320)}", f"e{random.randint(-30, 30)}"))
+            self.assertEqual(read(DOUBLE, "even", text)[0], self.value_from(float(text)), text)
+
+    def test_reading_half_way(self):
+        for one in self.some_doubles()[:300]:
+            if math.isfinite(one) and one > 0 and math.isfinite(math.nextafter(one, math.inf)):
+                with decimal.localcontext(decimal.Context(prec=2000)):
+                    half = (Decimal(one) + Decimal(math.nextafter(one, math.inf))) / 2
+                s, digits, e = half.as_tuple()
+                c = int("".join(map(str, digits)))
+                for decimal_near in ((s, c, e), (s, c * 10 ** 900 + 1, e - 900), (s, c * 10 ** 900 - 1, e - 900)):
+                    text = f"{decimal_near[1]}e{decimal_near[2]}"
+                    value = self.value_from(float(text))
+                    self.assertEqual(read_decimal(DOUBLE, "even", decimal_near)[0], value)
+                    self.assertIs(reads_back(DOUBLE, decimal_near, value), True)
+
+    def test_told_digits_and_places(self):
+        for one in self.some_doubles()[:400]:
+            if math.isfinite(one) and one != 0:
+                x, exact = self.value_from(one), Decimal(one)
+                for many in (1, 3, 17, 30):
+                    s, digits, e = Decimal(f"{one:.{many - 1}e}").as_tuple()
+                    expected = (s, int("".join(map(str, digits))), e)
+                    self.assertEqual(told_digits(DOUBLE, x, many, "even")[0], expected)
+                for way, rounding in DECIMAL_WAYS.items():
+                    context = decimal.Context(prec=9, rounding=rounding, Emin=-9999, Emax=9999)
+                    told, is_exact = told_digits(DOUBLE, x, 9, way)
+                    self.assertEqual(trimmed(told), self.trimmed_from(context.plus(exact)))
+                    self.assertIs(is_exact, context.plus(exact) == exact)
+                    context = decimal.Context(prec=2000, rounding=rounding)
+                    for places in (0, 5):
+                        near = exact.quantize(Decimal(1).scaleb(-places), context=context)
+                        told, is_exact = told_places(DOUBLE, x, places, way)
+                        self.assertEqual(told, (near.as_tuple()[0], int(near.copy_abs().scaleb(places, context)), -places))
+                        self.assertIs(is_exact, near == exact)
+
+    def trimmed_from(self, thing):
+        s, digits, e = thing.as_tuple()
+        return trimmed((s, int("".join(map(str, digits))), e))
 
 
 def number_from_double(s, size):

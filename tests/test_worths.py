@@ -8,19 +8,9 @@ from nearestheld.worths import (
     is_finite, is_tiny, is_zero, number_of, opposite, sign_of, size, worth, zero,
 )
 from reference import (
-    LARGE_FORMATS, SMALL_FORMATS, bare_sizes_to, greatest_size, normal_size, numbers_of, pair_of,
+    LARGE_FORMATS, SMALL_FORMATS, bare_sizes_to, edges_of, greatest_size, normal_size, numbers_of, pair_of,
     values_of, worth_of,
 )
-
-
-def edges_of(form):
-    """NUMBERS with the SIGN 0 at all edges of a format."""
-    base, digits, low, high = form
-    top, full = base ** digits - 1, base ** (digits - 1)
-    return [("num", 0, c, e) for c, e in (
-        (1, low), (2, low), (full - 1, low), (full, low), (full + 1, low), (top, low), (full, high), (top, high),
-        (top - 1, high), (full, min(low + 1, high)), (top, max(high - 1, low)),
-    )]
 
 
 class Worths(unittest.TestCase):

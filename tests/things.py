@@ -2,7 +2,7 @@
 
 import copy
 
-from nearestheld.errors import NearError, NoText, Nothing
+from nearestheld.errors import NearError, NoText, Nothing, Wrong
 
 
 class Odd:
@@ -84,3 +84,15 @@ def check_any_value(case, told, extra=()):
             case.assertEqual(picture(thing), before)
     for thing in extra:
         case.assertIs(told(copy.deepcopy(thing)), told(thing))
+
+
+def check_wrong(case, call, place, is_taken):
+    """Check that call raises Wrong(place) of any value that is not taken, and leaves it as it was."""
+    for thing in things():
+        if not is_taken(thing):
+            before = picture(thing)
+            with case.subTest(thing=before[:200]):
+                with case.assertRaises(Wrong) as caught:
+                    call(thing)
+                case.assertEqual(caught.exception.place, place)
+                case.assertEqual(picture(thing), before)
