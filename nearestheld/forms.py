@@ -112,7 +112,21 @@ def is_program(thing):
     many, steps = thing
     if not is_integer(many) or many < 0 or not isinstance(steps, tuple) or len(steps) == 0:
         return False
-    return all([_is_step(many, at, step) for at, step in enumerate(steps)])
+    return all([is_step(many, at, step) for at, step in enumerate(steps)])
+
+
+def is_step(many, at, thing):
+    """Whether thing is a STEP that may stand at an index of a PROGRAM with so many inputs."""
+    if not isinstance(thing, tuple) or len(thing) == 0 or not isinstance(thing[0], str):
+        return False
+    word, parts = thing[0], thing[1:]
+    if word == "input":
+        return len(parts) == 1 and _is_index(many, parts[0])
+    if word == "told":
+        return len(parts) == 1 and is_fraction(parts[0])
+    if word not in STEP_PARTS or len(parts) != STEP_PARTS[word]:
+        return False
+    return all([_is_index(at, part) for part in parts])
 
 
 def is_plain(thing):
@@ -149,20 +163,6 @@ def _is_worded(thing, word, many):
 def _is_index(many, thing):
     """Whether thing is an index of one of so many."""
     return is_integer(thing) and 0 <= thing and thing < many
-
-
-def _is_step(many, at, thing):
-    """Whether thing is a STEP that may stand at an index of a PROGRAM with so many inputs."""
-    if not isinstance(thing, tuple) or len(thing) == 0 or not isinstance(thing[0], str):
-        return False
-    word, parts = thing[0], thing[1:]
-    if word == "input":
-        return len(parts) == 1 and _is_index(many, parts[0])
-    if word == "told":
-        return len(parts) == 1 and is_fraction(parts[0])
-    if word not in STEP_PARTS or len(parts) != STEP_PARTS[word]:
-        return False
-    return all([_is_index(at, part) for part in parts])
 
 
 def _is_end(form, thing):

@@ -27,6 +27,7 @@ def pair_of(fraction):
     return (fraction.numerator, fraction.denominator)
 
 
+@lru_cache(maxsize=10 ** 5)
 def worth_of(form, number):
     size = number[2] * Fraction(form[0]) ** number[3]
     return -size if number[1] == 1 else size
@@ -71,14 +72,17 @@ def some_of(things, many):
     return things[:3] + things[3:-3:step] + things[-3:]
 
 
+@lru_cache(maxsize=None)
 def greatest_size(form):
     return (form[0] ** form[1] - 1) * Fraction(form[0]) ** form[3]
 
 
+@lru_cache(maxsize=None)
 def normal_size(form):
     return Fraction(form[0]) ** (form[2] + form[1] - 1)
 
 
+@lru_cache(maxsize=10 ** 4)
 def neighbours(form, x):
     """The NUMBERS next to x, not above it and not below it, whatever high is."""
     size, top = abs(x), form[2]

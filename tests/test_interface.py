@@ -37,7 +37,16 @@ INTERFACE = {
                 "is_shortest(form,number,thing) is_fewer_paper(form,number,thing)",
     "shower": "told_digits(form,number,many,way) told_places(form,number,places,way) enough_digits(form) "
               "kept_digits(form)",
+    "texts": "plain_text(decimal) marked_text(decimal) shortest_text(form,value)",
+    "sums": "sum_of(form,way,values) dot_of(form,way,pairs) exact_sum(form,numbers)",
+    "parted": "parted_sum(form,x,y) parted_product(form,x,y) parted_sum_of(form,values) "
+              "is_parted_sum(form,values,thing)",
+    "heap": "Heap(form)",
+    "programs": "needed_steps(program) shortened(program) put_in(program,programs) show_program(program) "
+                "read_program(text)",
 }
+# The methods of each class, which stand in the class itself.
+METHODS = {("heap", "Heap"): "put(value) take_out(value) join(heap) undo() told(way) members() many() twin() __eq__(other)"}
 
 
 def tree_of(module):
@@ -67,6 +76,16 @@ class Interface(unittest.TestCase):
                     self.assertIn(name, nodes)
                     expected = rest.rstrip(")").split(",") if rest else None
                     self.assertEqual(arguments_of(nodes[name]), expected)
+
+    def test_each_method_is_defined_in_its_class(self):
+        for (module, name), rows in METHODS.items():
+            home = [node for node in tree_of(module).body if getattr(node, "name", None) == name][0]
+            nodes = {node.name: node for node in home.body if isinstance(node, ast.FunctionDef)}
+            for row in rows.split():
+                method, _, rest = row.partition("(")
+                with self.subTest(module=module, method=method):
+                    expected = [word for word in rest.rstrip(")").split(",") if word]
+                    self.assertEqual(arguments_of(nodes[method])[1:], expected)
 
     def test_a_module_uses_only_those_above_it(self):
         order = list(INTERFACE)

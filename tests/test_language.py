@@ -13,7 +13,7 @@ from pathlib import Path
 PACKAGE = Path(__file__).resolve().parent.parent / "nearestheld"
 NODES = (
     "Module FunctionDef ClassDef arguments arg Return Assign For While If Raise Pass Expr ImportFrom alias "
-    "BoolOp And Or BinOp Add Sub Mult FloorDiv Mod Pow UnaryOp Not USub IfExp Dict ListComp comprehension "
+    "BoolOp And Or BinOp Add Sub Mult FloorDiv Mod Pow UnaryOp Not USub IfExp Dict ListComp DictComp comprehension "
     "Compare Eq NotEq Lt LtE Gt GtE Is IsNot In NotIn Call keyword Constant Attribute Subscript Name List Tuple "
     "Slice Load Store Break Continue"
 ).split()
@@ -33,10 +33,16 @@ BARRED_NAMES = (
     "compile copyright credits delattr dir eval exec exit gc getattr globals hasattr help id importlib license "
     "locals methodcaller os quit setattr super type vars sys __name__ iter next map"
 ).split()
+BARRED_ATTRIBUTES = (
+    "items keys values pop update append clear extend insert remove reverse setdefault sort args encode decode hex "
+    "fromhex format format_map mro as_integer_ratio bit_count conjugate from_bytes is_integer to_bytes"
+).split()
 BARRED_WORDS = re.compile(
     r"\b(typing|typing_extensions|enum|Enum|IntEnum|StrEnum|Flag|IntFlag|Generic|Protocol|ABC|ABCMeta|namedtuple|"
     r"NamedTuple|TypedDict|TYPE_CHECKING|abstractmethod|_wall|_WallAttr)\b|dataclass|overload|contextmanager"
 )
+# The double-underscore methods that the package needs; a docstring would say nothing new in them.
+SPECIAL_METHODS = ("__init__", "__eq__")
 FILES = sorted(PACKAGE.rglob("*.py"))
 BUILTINS = [name for name in dir(builtins) if name != "_"]
 
@@ -72,7 +78,7 @@ def is_plain_value(node):
 class Files(unittest.TestCase):
     def test_each_file_keeps_each_rule(self):
         rules = [getattr(self, name) for name in dir(self) if name.startswith("rule_")]
-        self.assertEqual(len(rules), 13)
+        self.assertEqual(len(rules), 14)
         for path in FILES:
             text = path.read_text()
             for rule in rules:
@@ -154,12 +160,12 @@ class Files(unittest.TestCase):
         if text:
             self.assertTrue(ast.get_docstring(tree))
         for node in ast.walk(tree):
-            if isinstance(node, (ast.FunctionDef, ast.ClassDef)) and node.name != "__init__":
+            if isinstance(node, (ast.FunctionDef, ast.ClassDef)) and node.name not in SPECIAL_METHODS:
                 self.assertTrue(ast.get_docstring(node), node.name)
 
     def rule_names(self, path, text, tree):
         for name in bound_names(tree):
-            self.assertFalse(name.startswith("__") and name != "__init__", name)
+            self.assertFalse(name.startswith("__") and name not in SPECIAL_METHODS, name)
             self.assertNotIn(name, BUILTINS)
             self.assertNotIn(name, BARRED_NAMES)
         top = {name for node in tree.body for name in self.names_bound_by(node)}
@@ -180,7 +186,27 @@ class Files(unittest.TestCase):
                 self.assertFalse(node.id == "_" and isinstance(node.ctx, ast.Load))
         for function in called:
             if isinstance(function, ast.Attribute):
-                self.assertIn(function.attr, METHODS)
+                self.assertIn(function.attr, METHODS + self.methods_in(tree))
+
+    def methods_in(self, tree):
+        return [part.name for node in tree.body if isinstance(node, ast.ClassDef)
+                for part in node.body if isinstance(part, ast.FunctionDef)]
+
+    def rule_classes(self, path, text, tree):
+        attributes = [node.attr for node in ast.walk(tree) if isinstance(node, ast.Attribute)]
+        stored = [node.attr for node in ast.walk(tree)
+                  if isinstance(node, ast.Attribute) and isinstance(node.ctx, ast.Store)]
+        methods = self.methods_in(tree)
+        self.assertEqual(set(stored) & set(methods), set())
+        self.assertEqual(set(stored) & set(BARRED_ATTRIBUTES), set())
+        self.assertLessEqual(set(attributes), set(stored) | set(methods) | set(METHODS))
+        self.assertNotIn("sort", attributes)
+        for node in tree.body:
+            if isinstance(node, ast.ClassDef):
+                names = [part.name for part in node.body if isinstance(part, ast.FunctionDef)]
+                self.assertEqual(len(names), len(set(names)))
+                self.assertEqual([part for part in node.body if not isinstance(part, (ast.FunctionDef, ast.Expr))], [])
+                self.assertTrue(all([part.args.args[0].arg == "self" for part in node.body if hasattr(part, "args")]))
 
     def rule_numbers_and_strings(self, path, text, tree):
         docs = [id(node.body[0].value) for node in ast.walk(tree) if isinstance(node, (

@@ -11,6 +11,8 @@ from random import Random
 
 from nearestheld.basic import add, by, take, times
 from nearestheld.formats import next_down, next_up, rank_of, unit_of
+from nearestheld.heap import Heap
+from nearestheld.parted import parted_product, parted_sum
 from nearestheld.reader import read, read_decimal, reads_back
 from nearestheld.rests import left_over, rest, whole
 from nearestheld.roots import fused, root
@@ -18,6 +20,8 @@ from nearestheld.rounding import rounded
 from nearestheld.scaling import scale
 from nearestheld.shortest import shortest
 from nearestheld.shower import told_digits, told_places
+from nearestheld.sums import dot_of, sum_of
+from nearestheld.texts import shortest_text
 from nearestheld.turning import from_integer, integer_of, turned
 from nearestheld.words import trimmed
 from reference import WAYS, pair_of, some_numbers, worth_of
@@ -273,6 +277,49 @@ class Doubles(unittest.TestCase):
                         told, is_exact = told_places(DOUBLE, x, places, way)
                         self.assertEqual(told, (near.as_tuple()[0], int(near.copy_abs().scaleb(places, context)), -places))
                         self.assertIs(is_exact, near == exact)
+
+    def test_sums(self):
+        random = Random(13)
+        for many in (0, 1, 2, 3, 10, 60):
+            for _ in range(30):
+                some = [one for one in self.some_doubles() if math.isfinite(one) and abs(one) < 1e300]
+                picked = random.choices(some, k=many)
+                picked += [-one * random.choice((1, 1, 1 + 2.0 ** -50)) for one in picked[:many // 2]]
+                expected = math.fsum(picked)
+                values = [self.value_from(one) for one in picked]
+                told = sum_of(DOUBLE, "even", values)[0]
+                heap = Heap(DOUBLE)
+                for value in values[::-1]:
+                    heap.put(value)
+                self.assertEqual(heap.told("even")[0], told)
+                # Python's sum of nothing left has no sign.
+                self.assertEqual(told if expected else told[2:], self.value_from(expected) if expected else (0, -1074))
+
+    def test_what_a_sum_and_a_product_lack(self):
+        doubles = [one for one in self.some_doubles() if math.isfinite(one)]
+        for one, other in zip(doubles, doubles[1:]):
+            x, y = self.value_from(one), self.value_from(other)
+            near = one + other
+            if math.isfinite(near):
+                told, rest = parted_sum(DOUBLE, x, y)
+                self.assertEqual(told, self.value_from(near))
+                self.assertEqual(Fraction(self.double_of(rest)), Fraction(one) + Fraction(other) - Fraction(near))
+            near = one * other
+            self.assertEqual(dot_of(DOUBLE, "even", [(x, y)])[0], self.value_from(near))
+            if math.isfinite(near):
+                told, rest = parted_product(DOUBLE, x, y)
+                self.assertEqual(told, self.value_from(near))
+                lacking = Fraction(one) * Fraction(other) - Fraction(near)
+                try:
+                    is_double = Fraction(float(lacking)) == lacking
+                except OverflowError:
+                    is_double = False
+                self.assertEqual(None if rest is None else Fraction(self.double_of(rest)), lacking if is_double else None)
+
+    def test_shortest_texts(self):
+        for one in self.some_doubles():
+            if not math.isnan(one):
+                self.assertEqual(float(shortest_text(DOUBLE, self.value_from(one))), one)
 
     def trimmed_from(self, thing):
         s, digits, e = thing.as_tuple()
