@@ -36,9 +36,9 @@ def lost_number(form, other):
     base, digits, low, high = form
     greatest = integer_power(base, digits) - 1
     for e in range(low, high + 1):
-        # If other has both, it has all with this e: what base ** e would have to be multiplied by to
-        # be a multiple of its unit at the lesser one divides both c, so it is 1; and the units of
-        # other at those that are less divide this unit.
+        # If other has both, it has all with this e. For let d be the least integer for which d * base ** e
+        # is a multiple of what the last digit counts in other at the lesser one: d divides both c, so it
+        # is 1; and what the last digit counts in other at those that are less divides this.
         for c in (greatest, greatest - 1):
             number = ("num", 0, c, e)
             if number_of(other, worth(form, number)) is None:
