@@ -79,7 +79,7 @@ def are_flags(thing):
 
 def is_number(form, thing):
     """Whether thing is a NUMBER of a format."""
-    if not _is_worded(thing, "num", 4) or not all([is_integer(part) for part in thing[1:]]):
+    if not is_worded(thing, "num", 4) or not all([is_integer(part) for part in thing[1:]]):
         return False
     base, digits, low, high = form
     _, s, c, e = thing
@@ -91,9 +91,9 @@ def is_number(form, thing):
 
 def is_value(form, thing):
     """Whether thing is a VALUE of a format."""
-    if _is_worded(thing, "nan", 1):
+    if is_worded(thing, "nan", 1):
         return True
-    if _is_worded(thing, "inf", 2):
+    if is_worded(thing, "inf", 2):
         return is_integer(thing[1]) and thing[1] in (0, 1)
     return is_number(form, thing)
 
@@ -136,9 +136,9 @@ def is_plain(thing):
 
 def is_span(form, thing):
     """Whether thing is a SPAN of a format."""
-    if _is_worded(thing, "none", 1):
+    if is_worded(thing, "none", 1):
         return True
-    if not _is_worded(thing, "span", 3):
+    if not is_worded(thing, "span", 3):
         return False
     _, low, high = thing
     if not _is_end(form, low) or not _is_end(form, high):
@@ -153,7 +153,7 @@ def is_box(form, many, thing):
     return isinstance(thing, tuple) and len(thing) == many and all([is_span(form, part) for part in thing])
 
 
-def _is_worded(thing, word, many):
+def is_worded(thing, word, many):
     """Whether thing is a tuple of so many parts, from 1 on, the first of which is this word."""
     if not isinstance(thing, tuple) or len(thing) != many:
         return False

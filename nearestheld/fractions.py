@@ -7,7 +7,13 @@ from nearestheld.forms import integer_power
 
 def reduced(n, d):
     """The FRACTION that stands for n / d, of integers, d not 0."""
-    common = gcd(n, d)
+    if n == 0:
+        return (0, 1)
+    # The bounds of roots have thousands of twos in d, which would keep gcd and // busy for long.
+    ahead, behind = _twos_in(n), _twos_in(d)
+    twos = min(ahead, behind)
+    n, d = n >> twos, d >> twos
+    common = gcd(n, d >> (behind - twos))
     if d < 0:
         common = -common
     return (n // common, d // common)
@@ -15,22 +21,30 @@ def reduced(n, d):
 
 def added(one, other):
     """The sum."""
-    return reduced(one[0] * other[1] + other[0] * one[1], one[1] * other[1])
+    # Only what both divisors have in common can be left to reduce, which is faster than to reduce all.
+    common = gcd(one[1], other[1])
+    left, right = one[1] // common, other[1] // common
+    n, rest = reduced(one[0] * right + other[0] * left, common)
+    return (n, left * right * rest)
 
 
 def lessened(one, other):
     """The difference."""
-    return reduced(one[0] * other[1] - other[0] * one[1], one[1] * other[1])
+    return added(one, (-other[0], other[1]))
 
 
 def times(one, other):
     """The product."""
-    return reduced(one[0] * other[0], one[1] * other[1])
+    # Each n is reduced by the other d ahead, which is faster than to reduce the product.
+    first, right = reduced(one[0], other[1])
+    second, left = reduced(other[0], one[1])
+    return (first * second, left * right)
 
 
 def over(one, other):
     """The quotient, other not being 0."""
-    return reduced(one[0] * other[1], one[1] * other[0])
+    n, d = other
+    return times(one, (-d, -n) if n < 0 else (d, n))
 
 
 def total_of(fractions):
@@ -133,3 +147,8 @@ def _power_within(base, whole):
             k = k + 1
             left = left // square
     return k
+
+
+def _twos_in(n):
+    """The greatest k for which an integer that is not 0 is a multiple of 2 ** k."""
+    return (n & -n).bit_length() - 1

@@ -12,8 +12,9 @@ from pathlib import Path
 
 PACKAGE = Path(__file__).resolve().parent.parent / "nearestheld"
 NODES = (
-    "Module FunctionDef ClassDef arguments arg Return Assign For While If Raise Pass Expr ImportFrom alias "
-    "BoolOp And Or BinOp Add Sub Mult FloorDiv Mod Pow UnaryOp Not USub IfExp Dict ListComp DictComp comprehension "
+    "Module FunctionDef ClassDef arguments arg Return Assign For While If Raise Try ExceptHandler Pass Expr ImportFrom "
+    "alias BoolOp And Or BinOp Add Sub Mult FloorDiv Mod Pow BitAnd RShift UnaryOp Not USub IfExp Dict ListComp "
+    "DictComp comprehension "
     "Compare Eq NotEq Lt LtE Gt GtE Is IsNot In NotIn Call keyword Constant Attribute Subscript Name List Tuple "
     "Slice Load Store Break Continue"
 ).split()
@@ -78,7 +79,7 @@ def is_plain_value(node):
 class Files(unittest.TestCase):
     def test_each_file_keeps_each_rule(self):
         rules = [getattr(self, name) for name in dir(self) if name.startswith("rule_")]
-        self.assertEqual(len(rules), 14)
+        self.assertEqual(len(rules), 15)
         for path in FILES:
             text = path.read_text()
             for rule in rules:
@@ -226,6 +227,15 @@ class Files(unittest.TestCase):
                 for sign, right in zip(node.ops, node.comparators):
                     if isinstance(sign, (ast.Is, ast.IsNot)):
                         self.assertTrue(isinstance(right, ast.Constant) and right.value in (None, True, False))
+
+    def rule_only_own_errors_are_caught(self, path, text, tree):
+        own = [node.name for node in ast.parse((PACKAGE / "errors.py").read_text()).body if hasattr(node, "name")]
+        for node in ast.walk(tree):
+            if isinstance(node, ast.Try):
+                self.assertEqual([node.finalbody, node.orelse, len(node.body), len(node.handlers)], [[], [], 1, 1])
+            if isinstance(node, ast.ExceptHandler):
+                self.assertIsNone(node.name)
+                self.assertIn(node.type.id, own)
 
     def rule_loops_do_not_change_what_they_go_over(self, path, text, tree):
         for loop in [node for node in ast.walk(tree) if isinstance(node, ast.For)]:
