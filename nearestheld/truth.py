@@ -35,6 +35,7 @@ def true_worth(program, inputs):
 def true_bounds(program, inputs, places):
     """Bounds of the TRUE worth of a program, at most 10 ** -places apart; None if there is none."""
     steps = program[1]
+    # What comes of roots may be off by more than they are, so they have more places, twice as many each time.
     root_places = places + 10
     while True:
         known = _known(steps, inputs, root_places)

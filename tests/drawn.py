@@ -6,6 +6,7 @@ from fractions import Fraction
 from functools import lru_cache
 from math import isqrt
 
+from nearestheld import basic, rests, roots, scaling, worths
 from reference import numbers_in_order, pair_of, some_numbers, some_of, worth_of
 
 PARTS = {"add": 2, "take": 2, "times": 2, "by": 2, "fused": 3, "root": 1, "opposite": 1, "size": 1, "least": 2,
@@ -184,3 +185,18 @@ def key_of(number):
     if c == 0:
         return (0, 0, 0)
     return (-1, -e, -c) if s else (1, e, c)
+
+
+def outcome_of_word(form, way, word, values):
+    """The OUTCOME of one operation, by the function that the document names for it."""
+    if word in ("add", "take", "times", "by"):
+        return getattr(basic, word)(form, way, *values)
+    if word in ("root", "fused"):
+        return getattr(roots, word)(form, way, *values)
+    if word == "whole":
+        return rests.whole(form, way, *values)
+    if word == "rest":
+        return rests.rest(form, *values)
+    if word in ("least", "greatest"):
+        return getattr(scaling, word)(form, *values)
+    return (getattr(worths, word)(*values), ())

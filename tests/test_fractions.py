@@ -43,6 +43,19 @@ class Reckoning(unittest.TestCase):
                 self.assertIs(is_integer(order), True)
                 self.assertEqual(order, (left > right) - (left < right))
 
+    def test_many_twos(self):
+        # As bounds of roots have them.
+        some = [pair_of(Fraction(n * 2 ** up, d * 2 ** down)) for n in (-5, 1, 3 ** 900) for d in (1, 7, 3 ** 899) for up, down in (
+            (0, 0), (1, 3), (64, 0), (0, 64), (0, 3000), (3000, 0), (3000, 2999))]
+        for one in some:
+            for other in some:
+                left, right = fraction_of(one), fraction_of(other)
+                self.check(added(one, other), left + right)
+                self.check(lessened(one, other), left - right)
+                self.check(times(one, other), left * right)
+                self.check(over(one, other), left / right)
+                self.check(reduced(one[0] * other[0], one[1] * other[0]), left)
+
     def test_total(self):
         for some in ([], [(1, 2)], [(-1, 2), (1, 2)], SOME, [(1, 3)] * 60, [(LONG, 1), (1, LONG), (-LONG, 1)]):
             expected = sum([fraction_of(one) for one in some], Fraction(0))

@@ -54,10 +54,20 @@ INTERFACE = {
              "side_of(form,one,other)",
     "spanops": "span_result(form,word,spans)",
     "enclosed": "enclosed(program,form,box) result_within(program,form,box)",
+    "parting": "middle_of(form,one) widest(form,box) parted_box(form,box,index) parted_result(program,form,box,deep)",
+    "staying": "is_stay_paper(program,form,box,span,thing) is_leave_paper(program,form,box,span,thing) "
+               "stay_paper(program,form,box,span,deep) leave_paper(program,form,box,span,deep) "
+               "boxes_left(program,form,box,span,deep)",
+    "errorpapers": "rule_kept(program,form,way,box,paper,index) far_of(form,span) near_of(form,span)",
+    "judging": "is_paper(program,form,way,box,thing) broken_step(program,form,way,box,paper) "
+               "widened(program,form,way,box,paper,index,more) bound_of(paper)",
+    "bounding": "error_paper(program,form,way,box) error_bound(program,form,way,box)",
+    "bench": "Bench(form,way)",
 }
 # The methods of each class, which stand in the class itself.
 METHODS = {
     ("heap", "Heap"): "put(value) take_out(value) join(heap) undo() told(way) members() many() twin() __eq__(other)",
+    ("bench", "Bench"): "execute(line) state() twin() __eq__(other)",
 }
 
 

@@ -5,8 +5,7 @@ from fractions import Fraction
 from itertools import product
 from random import Random
 
-from drawn import PARTS, PLAIN_WORDS, drawn_program, each_word_program, true_worth_of
-from nearestheld import basic, roots, scaling, worths
+from drawn import PARTS, PLAIN_WORDS, drawn_program, each_word_program, outcome_of_word, true_worth_of
 from nearestheld.errors import NearError, TooMany
 from nearestheld.running import error_at, result_of, run, worst_error
 from reference import (
@@ -19,17 +18,6 @@ NAN, TOP, BOTTOM = ("nan",), ("inf", 0), ("inf", 1)
 PLUS, MINUS = ("num", 0, 0, -3), ("num", 1, 0, -3)
 ONE, TWO, THREE, SEVEN = [("num", 0, c, -1) for c in (10, 20, 30, 70)]
 THIRD = (1, (("input", 0), ("told", (3, 1)), ("by", 0, 1), ("add", 0, 1), ("times", 2, 1)))
-
-
-def operation(form, way, word, values):
-    """The OUTCOME of one operation, by the function that the document names for it."""
-    if word in ("add", "take", "times", "by"):
-        return getattr(basic, word)(form, way, *values)
-    if word in ("root", "fused"):
-        return getattr(roots, word)(form, way, *values)
-    if word in ("least", "greatest"):
-        return getattr(scaling, word)(form, *values)
-    return (getattr(worths, word)(*values), ())
 
 
 def is_below(form, x, y):
@@ -51,7 +39,7 @@ def expected_run(program, form, way, values):
             a, b, c, d = [made[part] for part in parts]
             told = (c if is_below(form, a, b) else d, ())
         else:
-            told = operation(form, way, word, [made[part] for part in parts])
+            told = outcome_of_word(form, way, word, [made[part] for part in parts])
         made.append(told[0])
         flags |= set(told[1])
     return (made, tuple(sorted(flags)))

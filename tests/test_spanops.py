@@ -6,10 +6,9 @@ from itertools import product
 from random import Random
 
 from drawn import (
-    BOTTOM, NO_NUMBERS, PARTS, SPAN_WORDS, TOP, WHOLE, drawn_span, end_beyond, end_under, numbers_within, plain_numbers, spans_among,
-    spans_of_large,
+    BOTTOM, NO_NUMBERS, PARTS, SPAN_WORDS, TOP, WHOLE, drawn_span, end_beyond, end_under, numbers_within, outcome_of_word, plain_numbers,
+    spans_among, spans_of_large,
 )
-from nearestheld import basic, roots, scaling, worths
 from nearestheld.forms import is_span
 from nearestheld.spanops import span_result
 from nearestheld.spans import lies_in
@@ -76,16 +75,6 @@ def expected_root(form, choices):
     under = [number for number in unsigned if worth_of(form, number) ** 2 <= max(low, 0)]
     beyond = [number for number in unsigned if worth_of(form, number) ** 2 >= high]
     return (("span", under[-1], beyond[0] if beyond and high < BEYOND else TOP), low >= 0)
-
-
-def outcome_of(form, way, word, values):
-    if word in ("add", "take", "times", "by"):
-        return getattr(basic, word)(form, way, *values)
-    if word in ("root", "fused"):
-        return getattr(roots, word)(form, way, *values)
-    if word in ("least", "greatest"):
-        return getattr(scaling, word)(form, *values)
-    return (getattr(worths, word)(*values), ())
 
 
 class Results(unittest.TestCase):
@@ -220,7 +209,7 @@ class Ends(unittest.TestCase):
     def check_single(self, form, word, numbers):
         """Check the SPANS of single NUMBERS against what the operation itself tells by "down" and by "up"."""
         spans = tuple([("span", number, number) for number in numbers])
-        ends = [outcome_of(form, way, word, numbers)[0] for way in ("down", "up")]
+        ends = [outcome_of_word(form, way, word, numbers)[0] for way in ("down", "up")]
         told = span_result(form, word, spans)
         if ends[0] == ("nan",) or (word == "by" and numbers[1][2] == 0):
             self.assertEqual(told, (NO_NUMBERS, False))
@@ -298,7 +287,7 @@ class Ends(unittest.TestCase):
                         continue
                     told, _ = span_result(form, word, tuple(spans))
                     for way in ("even", "away", "up", "down", "zero"):
-                        value = outcome_of(form, way, word, values)[0]
+                        value = outcome_of_word(form, way, word, values)[0]
                         if value[0] == "num":
                             plain = ("num", 0) + value[2:] if value[2] == 0 else value
                             self.assertIs(lies_in(form, ("span", plain, plain), told), True)

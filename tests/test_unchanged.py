@@ -3,7 +3,11 @@
 import copy
 import unittest
 
-from nearestheld import formats, parted, programs, reader, shortest, shower, sums, texts, turning, words
+from nearestheld import (
+    bounding, enclosed, errorpapers, formats, judging, parted, parting, programs, reader, running, shortest, shower, spanops, spans,
+    staying, sums, texts, truth, turning, words,
+)
+from nearestheld.bench import Bench
 from nearestheld.errors import NearError
 from nearestheld.heap import Heap
 from things import picture
@@ -11,8 +15,31 @@ from things import picture
 SMALL, TENS = (2, 3, -2, 1), (10, 2, -2, 0)
 SEVEN, TINY, TOP = ("num", 1, 7, 1), ("num", 0, 1, -2), ("inf", 0)
 ONE, TWO = (1, (("input", 0),)), (2, (("input", 0), ("input", 1), ("told", (1, 2)), ("fused", 0, 1, 2)))
+HALF, HILL = ("told", (1, 2)), (1, (("input", 0), ("told", (2, 1)), ("take", 1, 0), ("times", 0, 2)))
+OPEN = (0, (HALF, ("root", 0), ("root", 0), ("take", 1, 2), ("by", 0, 3)))
+SOME, NEAR = ("span", ("num", 0, 4, 0), ("num", 0, 4, 1)), ("span", ("num", 0, 0, -2), ("num", 0, 6, 0))
+SPAN, NO_SPAN, BOX = ("span", ("num", 0, 4, -2), ("num", 0, 7, 0)), ("none",), (("span", ("num", 0, 4, -2), ("num", 0, 7, 0)),)
+ROWS = ((SOME, (0, 1)), (SOME, (1, 2)), (NEAR, (2, 1)), (("span", ("num", 1, 7, 1), ("num", 0, 7, 1)), (99, 1)))
+PARTED = ("part", 0, ("in",), ("part", 0, ("in",), ("in",)))
 # Each function of these modules with arguments of it; lists where lists may be.
 CALLS = (
+    (truth, "true_worths", TWO, ((1, 2), (1, 3))), (truth, "true_worth", TWO, ((1, 2), (1, 3))), (truth, "true_bounds", OPEN, (), 20),
+    (truth, "true_bounds", (0, (HALF, ("root", 0))), (), 20), (running, "run", TWO, SMALL, "up", (SEVEN, TINY)), (running, "run", TWO, SMALL, "up", (TOP, TINY)),
+    (running, "result_of", TWO, SMALL, "up", (SEVEN, TINY)), (running, "error_at", TWO, SMALL, "up", (SEVEN, TINY)),
+    (running, "worst_error", TWO, SMALL, "up", ([SEVEN, TINY], [TINY, SEVEN])), (running, "worst_error", TWO, SMALL, "up", ([SEVEN] * 50, [TINY] * 41)),
+    (spans, "span_of", SMALL, (1, 3), (2, 3)), (spans, "whole_span"), (spans, "hull", SMALL, SOME, SPAN), (spans, "meet", SMALL, SOME, SPAN),
+    (spans, "span_into", SMALL, TENS, SPAN), (spans, "holds", SMALL, SPAN, (1, 3)), (spans, "lies_in", SMALL, SPAN, NEAR), (spans, "width_of", SMALL, SPAN),
+    (spans, "side_of", SMALL, SPAN, SOME), (spanops, "span_result", SMALL, "fused", (SPAN, SOME, NEAR)), (spanops, "span_result", SMALL, "by", (SOME, NEAR)),
+    (enclosed, "enclosed", HILL, SMALL, BOX), (enclosed, "result_within", HILL, SMALL, BOX), (parting, "middle_of", SMALL, SPAN),
+    (parting, "widest", SMALL, BOX + (NO_SPAN, SOME)), (parting, "parted_box", SMALL, BOX + (SOME,), 1), (parting, "parted_result", HILL, SMALL, BOX, 3),
+    (staying, "is_stay_paper", HILL, SMALL, BOX, SOME, ["in"]), (staying, "is_stay_paper", HILL, SMALL, BOX, SOME, PARTED),
+    (staying, "is_leave_paper", HILL, SMALL, BOX, SOME, ["point", [(1, 1)]]), (staying, "is_leave_paper", HILL, SMALL, BOX, SOME, ("point", ((1, 1),))),
+    (staying, "stay_paper", HILL, SMALL, BOX, ("span", SEVEN, ("num", 0, 7, 1)), 3), (staying, "leave_paper", HILL, SMALL, BOX, SOME, 3),
+    (staying, "boxes_left", HILL, SMALL, BOX, SOME, 3), (errorpapers, "rule_kept", HILL, SMALL, "even", (SOME,), ROWS, 2),
+    (errorpapers, "far_of", SMALL, SPAN), (errorpapers, "near_of", SMALL, SPAN), (judging, "is_paper", HILL, SMALL, "even", (SOME,), list(ROWS)),
+    (judging, "is_paper", HILL, SMALL, "even", (SOME,), ROWS), (judging, "broken_step", HILL, SMALL, "even", (SOME,), ROWS),
+    (judging, "widened", HILL, SMALL, "even", (SOME,), ROWS, 1, (1, 7)), (judging, "bound_of", ROWS), (bounding, "error_paper", HILL, SMALL, "even", (NEAR,)),
+    (bounding, "error_paper", HILL, SMALL, "even", (("span", SEVEN, SEVEN),)), (bounding, "error_bound", HILL, SMALL, "even", (NEAR,)),
     (formats, "greatest_number", SMALL), (formats, "least_normal", SMALL), (formats, "least_tiny", SMALL),
     (formats, "numbers_many", SMALL), (formats, "rank_of", SMALL, SEVEN), (formats, "steps_between", SMALL, SEVEN, TINY),
     (formats, "unit_of", SMALL, SEVEN), (formats, "numbers_of", SMALL), (formats, "numbers_of", (10, 2, 0, 900)),
@@ -66,12 +93,30 @@ class Calls(unittest.TestCase):
                 self.assertEqual(result_of(module, name, copy.deepcopy(arguments))[1], shown)
 
     def test_each_function_is_among_them(self):
-        for module in (formats, turning, words, reader, shortest, shower, texts, sums, parted, programs):
+        for module in (formats, turning, words, reader, shortest, shower, texts, sums, parted, programs, truth, running, spans, spanops,
+                       enclosed, parting, staying, errorpapers, judging, bounding):
             called = [name for one, name, *_ in CALLS if one is module]
             own = [name for name, thing in vars(module).items()
                    if callable(thing) and thing.__module__ == module.__name__ and not name.startswith("_")]
-            helpers = ("integer_text", "integer_in", "places_many", "parted_sign", "counted_sum_of")
+            helpers = ("integer_text", "integer_in", "places_many", "parted_sign", "counted_sum_of", "operated", "has_numbers", "low_end",
+                       "high_end", "halves", "span_needed", "least_error")
             self.assertEqual(set(own) - set(helpers), set(called))
+
+    def test_benches(self):
+        lines = ["set a 7", "set b 0.25", "by c a b", "flags", "back", "names", "show a", "less a b", "add q a zz", "own b"]
+        told = []
+        for _ in range(2):
+            bench, answers = Bench(SMALL, "up"), []
+            for line in lines:
+                try:
+                    answers.append(bench.execute(line))
+                except NearError as error:
+                    answers.append(error.line)
+            bench.state()[1].clear()
+            told.append(picture([answers, bench.state()]))
+            for answer in answers:
+                answer.clear() if isinstance(answer, list) else None
+        self.assertEqual(told[0], told[1])
 
     def test_heaps(self):
         heap, other = Heap(SMALL), Heap(SMALL)
